@@ -6,6 +6,11 @@ SIZE32 = 4294967296
 
 GREATEST_HOW = 15
 
+# What is answered beside the word: 0 where the call did what it's for, else why it's refused.
+DONE = 0
+NOT_VALID = -22
+NOT_ENOUGH = -28
+
 
 def with_sign(number, size):
     rest = number % size
@@ -83,3 +88,20 @@ def if64(was, cmp, add, how):
 
 def if32(was, cmp, add, how):
     return add_if(was, cmp, add, how, SIZE32)
+
+
+def take(was, n):
+    if n < 1:
+        return [NOT_VALID, was]
+    if was < n:
+        return [NOT_ENOUGH, was]
+    return [DONE, was - n]
+
+
+def give(was, n, most):
+    if n < 1 or most < n:
+        return [NOT_VALID, was]
+    # most - n is never below 0 here, so a word below 0 always has room, and no sum goes round.
+    if was > most - n:
+        return [NOT_ENOUGH, was]
+    return [DONE, was + n]
