@@ -10,6 +10,7 @@ GREATEST_HOW = 15
 DONE = 0
 NOT_VALID = -22
 NOT_ENOUGH = -28
+HELD = -16
 
 
 def with_sign(number, size):
@@ -105,3 +106,22 @@ def give(was, n, most):
     if was > most - n:
         return [NOT_ENOUGH, was]
     return [DONE, was + n]
+
+
+def below(was, n, end):
+    if n == 0 or end < n:
+        return [NOT_VALID, was]
+    # end - n is never below 0 here, and what is at most end never goes round.
+    if was > end - n:
+        return [NOT_ENOUGH, was]
+    return [DONE, was + n]
+
+
+def hold(was, me):
+    # The word 0 says that nobody holds it, so no one can hold it by that number.
+    if me == 0:
+        return [NOT_VALID, was]
+    # The one that holds it is refused like any other, so that each hold has a free of its own.
+    if was != 0:
+        return [HELD, was]
+    return [DONE, me]
