@@ -11,6 +11,7 @@ DONE = 0
 NOT_VALID = -22
 NOT_ENOUGH = -28
 HELD = -16
+NOT_THE_HOLDER = -1
 
 
 def with_sign(number, size):
@@ -125,3 +126,12 @@ def hold(was, me):
     if was != 0:
         return [HELD, was]
     return [DONE, me]
+
+
+def free(was, me):
+    # Else a word that nobody holds could be freed, by the number 0.
+    if me == 0:
+        return [NOT_VALID, was]
+    if was != me:
+        return [NOT_THE_HOLDER, was]
+    return [DONE, 0]
